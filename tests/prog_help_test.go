@@ -216,10 +216,15 @@ var (
 
 // isText says whether a text is that of a program.
 func isText(text string) bool {
+	return len(text) <= 6000 && isLines(text)
+}
+
+// isLines says whether a text is what a program in form is written as, however long that is.
+func isLines(text string) bool {
 	if text == "" {
 		return true
 	}
-	if len(text) > 6000 || !strings.HasSuffix(text, "\n") {
+	if !strings.HasSuffix(text, "\n") {
 		return false
 	}
 	lines := strings.Split(strings.TrimSuffix(text, "\n"), "\n")
