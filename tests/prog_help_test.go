@@ -390,7 +390,12 @@ func rowText(b *strings.Builder, list []impl.Stmt, room int) {
 
 // changes goes through a program, and changes one thing of it at a time; each is changed back then.
 func changes(p *impl.Prog, look func()) {
-	changesInside(reflect.ValueOf(p).Elem(), look)
+	changesOf(p, look)
+}
+
+// changesOf goes likewise through anything.
+func changesOf[T any](x *T, look func()) {
+	changesInside(reflect.ValueOf(x).Elem(), look)
 }
 
 func changesInside(v reflect.Value, look func()) {
@@ -431,7 +436,7 @@ func otherLists(v reflect.Value) []reflect.Value {
 	empty := reflect.MakeSlice(v.Type(), 0, 3)
 	list := []reflect.Value{reflect.Zero(v.Type()), empty}
 	more := []reflect.Value{reflect.Zero(v.Type().Elem())}
-	for _, x := range []any{1, num(1), read("a"), two(3, num(1), num(2)), let("a", num(1)), choose(num(1), nil, nil), to("a"), of(num(1)), has("a", numberType), lent("a", numberType), says("a", nil, nil, numberType, num(1)), pairType(numberType, numberType)} {
+	for _, x := range []any{1, num(1), read("a"), two(3, num(1), num(2)), let("a", num(1)), choose(num(1), nil, nil), to("a"), of(num(1)), has("a", numberType), lent("a", numberType), says("a", nil, nil, numberType, num(1)), pairType(numberType, numberType), "a", numTerm(1), nameTerm("a"), bindTerm("a", numTerm(1)), bindIf(nil, numTerm(1), impl.Body{}, impl.Body{}), pure("a", "", impl.Body{})} {
 		if reflect.TypeOf(x) == v.Type().Elem() {
 			more = append(more, reflect.ValueOf(x))
 		}

@@ -39,7 +39,7 @@ func roomyInside(v reflect.Value) reflect.Value {
 
 // spare is something that is not nothing, for the room behind a list.
 func spare(kind reflect.Type) reflect.Value {
-	for _, x := range []any{7, num(77), let("spare", num(7)), to("spare"), has("spare", numberType), says("spare", nil, nil, numberType, num(7)), pairType(numberType, numberType), number(7)} {
+	for _, x := range []any{7, num(77), let("spare", num(7)), to("spare"), has("spare", numberType), says("spare", nil, nil, numberType, num(7)), pairType(numberType, numberType), number(7), "spare", numTerm(77), bindTerm("spare", numTerm(7)), pure("spare", "", impl.Body{})} {
 		if reflect.TypeOf(x) == kind {
 			return reflect.ValueOf(x)
 		}
