@@ -10,7 +10,7 @@ import (
 	"loop.example/handfast/impl"
 )
 
-// Runs, said once more in another way: all numbers lie in one store, each by the text of where it is, and what a name stands for is such a text.
+// Runs, said once more in another way: all numbers lie in one store, each by the text of where it is, and what a name stands for is such a text, which somebody has a grip on.
 
 // store is the numbers of a run: by the count of an own place, and a step for each part.
 type store struct {
@@ -41,19 +41,31 @@ func (s *store) read(where string) impl.Val {
 	return pairVal(s.read(where+".0"), s.read(where+".1"))
 }
 
-// frame is a function that is being run.
+// frame is a function that is being run: which grip each name is.
 type frame struct {
 	*store
+	*diary
 	prog  impl.Prog
-	where map[string]string
+	names map[string]int
 }
 
+// find is where a place lies that is used.
 func (f frame) find(p impl.Place) string {
-	text := f.where[p.Name]
+	text := f.grips[f.names[p.Name]].where
 	for _, step := range p.Path {
 		text += "." + strconv.Itoa(step)
 	}
+	f.touch(text, f.names[p.Name])
 	return text
+}
+
+func (f frame) lends(p impl.Place) int {
+	where := f.find(p)
+	return f.grab(where, f.grips[f.names[p.Name]].line)
+}
+
+func (f frame) owns(v impl.Val) int {
+	return f.grab(f.keep(v), nil)
 }
 
 // says is what an expression says; false, if it fails.
@@ -65,8 +77,10 @@ func (f frame) says(e impl.Expr) (impl.Val, bool) {
 		return f.read(f.find(e.Place)), true
 	}
 	a, fine := f.says(e.Kids[0])
-	b, ok := f.says(e.Kids[1])
-	fine = fine && ok
+	if !fine {
+		return impl.Val{}, false
+	}
+	b, fine := f.says(e.Kids[1])
 	switch e.Kind {
 	case 3:
 		return number(a.Num + b.Num), fine && a.Num+b.Num <= 9999
@@ -90,17 +104,17 @@ func (f frame) does(list []impl.Stmt) bool {
 		}
 		switch s.Kind {
 		case 1:
-			f.where[s.Name] = f.keep(said)
+			f.names[s.Name] = f.owns(said)
 		case 2:
-			f.where[s.Name] = f.find(s.Place)
+			f.names[s.Name] = f.lends(s.Place)
 		case 3:
 			f.write(f.find(s.Place), said)
 		case 4:
-			f.where[s.Name], ok = f.calls(s)
+			f.names[s.Name], ok = f.calls(s)
 		case 5:
 			ok = f.does(map[bool][]impl.Stmt{true: s.Else, false: s.Then}[said.Num == 0])
 		case 6:
-			f.where[s.Name] = f.find(map[bool]impl.Place{true: s.Other, false: s.Place}[said.Num == 0])
+			f.names[s.Name] = f.lends(map[bool]impl.Place{true: s.Other, false: s.Place}[said.Num == 0])
 		}
 		if !ok {
 			return false
@@ -109,60 +123,67 @@ func (f frame) does(list []impl.Stmt) bool {
 	return true
 }
 
-func (f frame) calls(s impl.Stmt) (string, bool) {
-	var list []string
+func (f frame) calls(s impl.Stmt) (int, bool) {
+	var list []int
 	for _, a := range s.Args {
 		if a.Lent {
-			list = append(list, f.find(a.Place))
+			list = append(list, f.lends(a.Place))
 			continue
 		}
 		said, ok := f.says(a.Expr)
 		if !ok {
-			return "", false
+			return 0, false
 		}
-		list = append(list, f.keep(said))
+		list = append(list, f.owns(said))
 	}
 	at := slices.IndexFunc(f.prog.Fns, func(fn impl.Fn) bool { return fn.Name == s.Fn })
 	return f.runs(f.prog.Fns[at], list)
 }
 
-// runs is where lies what a function says, or gives out; false, if it fails.
-func (f frame) runs(fn impl.Fn, list []string) (string, bool) {
-	f.where = map[string]string{}
+// runs is a grip on what a function says, or gives out; false, if it fails.
+func (f frame) runs(fn impl.Fn, list []int) (int, bool) {
+	f.names = map[string]int{}
 	for n, param := range fn.Params {
-		f.where[param.Name] = list[n]
+		f.names[param.Name] = list[n]
 	}
 	if !f.does(fn.Body) {
-		return "", false
+		return 0, false
 	}
 	if fn.Lent {
-		return f.find(fn.Gives), true
+		return f.lends(fn.Gives), true
 	}
 	said, ok := f.says(fn.Says)
-	return f.keep(said), ok
+	return f.owns(said), ok
 }
 
 // ranOf is what HeapRun should answer of a program that is fine, and what its function asks for.
 func ranOf(p impl.Prog, at int, args []impl.Val, through []impl.Val) impl.Out {
-	f := frame{store: &store{nums: map[string]int{}}, prog: p}
-	var list []string
+	out, _ := watchedOf(p, at, args, through)
+	return out
+}
+
+// watchedOf is that, and whether something was used that had ended; a program that only CheckLoan is wrong with may be run so, too.
+func watchedOf(p impl.Prog, at int, args []impl.Val, through []impl.Val) (impl.Out, bool) {
+	f := frame{store: &store{nums: map[string]int{}}, diary: &diary{}, prog: p}
+	var list []int
 	for _, v := range args {
-		list = append(list, f.keep(v))
+		list = append(list, f.owns(v))
 	}
-	where, ok := f.runs(p.Fns[at], list)
+	n, ok := f.runs(p.Fns[at], list)
 	if !ok {
-		return impl.Out{Code: 1}
+		return impl.Out{Code: 1}, f.late
 	}
+	where := f.grips[n].where
 	out := impl.Out{Val: f.read(where)}
 	for _, v := range through {
 		f.write(where, v)
 	}
 	for n, param := range p.Fns[at].Params {
 		if param.Lent {
-			out.Lent = append(out.Lent, f.read(list[n]))
+			out.Lent = append(out.Lent, f.read(f.grips[list[n]].where))
 		}
 	}
-	return out
+	return out, f.late
 }
 
 // runOf is what HeapRun should answer of anything.
@@ -266,7 +287,7 @@ func outText(o impl.Out) string {
 
 func mustRun(t *testing.T, p impl.Prog, at int, args []impl.Val, through []impl.Val, want impl.Out) {
 	t.Helper()
-	if got := impl.HeapRun(p, at, args, through); !sameThing(got, want) {
+	if got := ran(t, p, at, args, through); !sameThing(got, want) {
 		t.Fatalf("run %d with %v and %v %s, it should be: %s, in\n%s", at, args, through, outText(got), outText(want), textOf(p))
 	}
 }
@@ -274,7 +295,7 @@ func mustRun(t *testing.T, p impl.Prog, at int, args []impl.Val, through []impl.
 // mustBad checks that nothing is run.
 func mustBad(t *testing.T, what string, p impl.Prog, at int, args []impl.Val, through []impl.Val) {
 	t.Helper()
-	if got := impl.HeapRun(p, at, args, through); !sameThing(got, impl.Out{Code: 9}) {
+	if got := ran(t, p, at, args, through); !sameThing(got, impl.Out{Code: 9}) {
 		t.Errorf("%s: it %s, it should be bad", what, outText(got))
 	}
 }

@@ -14,10 +14,10 @@ func TestWhatIsRunIsNotChanged(t *testing.T) {
 	eachRun(t, 150, func(p impl.Prog, at int, args []impl.Val, through []impl.Val) {
 		prog, given, back := roomy(p), roomy(args), roomy(through)
 		mustRun(t, prog, at, given, back, ranOf(p, at, args, through))
-		impl.HeapRun(prog, at, given[:len(given)/2], back)
-		impl.HeapRun(prog, at, append(slices.Clone(given), number(1)), back)
-		impl.HeapRun(prog, at, given, given)
-		impl.HeapRun(prog, at-1, given, back)
+		ran(t, prog, at, given[:len(given)/2], back)
+		ran(t, prog, at, append(slices.Clone(given), number(1)), back)
+		ran(t, prog, at, given, given)
+		ran(t, prog, at-1, given, back)
 		if !wholeThing(prog, roomy(p)) || !wholeThing(given, roomy(args)) || !wholeThing(back, roomy(through)) {
 			t.Fatalf("run %d changed what it was given, in\n%s", at, textOf(p))
 		}
@@ -25,8 +25,8 @@ func TestWhatIsRunIsNotChanged(t *testing.T) {
 	for _, p := range likelyProgs(100, 5) {
 		prog, given := roomy(p), roomy(valsFrom("1 (2,3) 4 (5,6)"))
 		for at := range p.Fns {
-			impl.HeapRun(prog, at, given, nil)
-			impl.HeapRun(prog, at, given[:1], given[:1])
+			ran(t, prog, at, given, nil)
+			ran(t, prog, at, given[:1], given[:1])
 		}
 		if !wholeThing(prog, roomy(p)) || !wholeThing(given, roomy(valsFrom("1 (2,3) 4 (5,6)"))) {
 			t.Fatalf("changed:\n%s", textOf(p))
@@ -57,7 +57,7 @@ func TestArgumentsThatShareMemory(t *testing.T) {
 	both := pairVal(one, one)
 	p := mustRead(t, "fn f\nlent p ((i,i),(i,i))\nlent q ((i,i),(i,i))\nhas m ((i,i),(i,i))\nset p.0.0 9\nset m.1.0 8\nset q.1.1 @m.0.0\ngives (i,i) p.1\n")
 	args := []impl.Val{both, both, both}
-	out := impl.HeapRun(p, 0, args, []impl.Val{one})
+	out := ran(t, p, 0, args, []impl.Val{one})
 	if got := outText(out); got != "says (1,2) leaves ((9,2),(1,2)) ((1,2),(1,1))" {
 		t.Error(got)
 	}
@@ -70,12 +70,12 @@ func TestArgumentsThatShareMemory(t *testing.T) {
 	// Also where all is given by one list, and that is what is written through.
 	list := []impl.Val{both}
 	q := mustRead(t, "fn f\nlent p ((i,i),(i,i))\nset p.0 , 8 9\ngives ((i,i),(i,i)) p\n")
-	out = impl.HeapRun(q, 0, list, list)
+	out = ran(t, q, 0, list, list)
 	if got := outText(out); got != "says ((8,9),(1,2)) leaves ((1,2),(1,2))" || overlap(append(pieces(reflect.ValueOf(out)), pieceOfList(list)...)) {
 		t.Error(got)
 	}
 	// What is said, and what is left, of one place are two lists.
-	out = impl.HeapRun(mustRead(t, "fn f\nlent p (i,i)\nsays ((i,i),(i,i)) , @p @p\n"), 0, []impl.Val{one}, nil)
+	out = ran(t, mustRead(t, "fn f\nlent p (i,i)\nsays ((i,i),(i,i)) , @p @p\n"), 0, []impl.Val{one}, nil)
 	if got := outText(out); got != "says ((1,2),(1,2)) leaves (1,2)" || overlap(pieces(reflect.ValueOf(out))) {
 		t.Error(got)
 	}
@@ -91,7 +91,7 @@ func TestNothingIsKeptOfRuns(t *testing.T) {
 	text := "fn f\nlent p (i,i)\nset p.0 + @p.0 1\ngives (i,i) p\n"
 	p := mustRead(t, text)
 	args, through := valsFrom("(1,2)"), valsFrom("(8,9)")
-	out := impl.HeapRun(p, 0, args, through)
+	out := ran(t, p, 0, args, through)
 	args[0].Kids[0].Num, through[0].Kids[0].Num = 50, 60
 	if got := outText(out); got != "says (2,2) leaves (8,9)" {
 		t.Error(got)
@@ -115,7 +115,7 @@ func TestNoPanicAtWrongRuns(t *testing.T) {
 	for n, p := range progs {
 		for _, at := range []int{math.MinInt, -1, 0, 1, math.MaxInt} {
 			for _, args := range lists {
-				if out := impl.HeapRun(p, at, args, args); !sameThing(out, impl.Out{Code: 9}) {
+				if out := ran(t, p, at, args, args); !sameThing(out, impl.Out{Code: 9}) {
 					t.Errorf("program %d: %v", n, out)
 				}
 			}
@@ -149,7 +149,7 @@ func mayRun(t *testing.T, p impl.Prog, at int, args []impl.Val, through []impl.V
 	case at == 2 && len(args) == 0 && len(through) == 0:
 		want = 0
 	}
-	if got := impl.HeapRun(p, at, args, through); got.Code != want {
+	if got := ran(t, p, at, args, through); got.Code != want {
 		t.Fatalf("run %d is %d, not %d", at, got.Code, want)
 	}
 }

@@ -21,7 +21,7 @@ func (c counter) enough(t *testing.T, fine int, fails int) {
 // run runs a function with what it asks for.
 func (c counter) run(t *testing.T, p impl.Prog, at int, args []impl.Val, through []impl.Val) impl.Out {
 	t.Helper()
-	out := impl.HeapRun(p, at, args, through)
+	out := ran(t, p, at, args, through)
 	if out.Code != 0 && out.Code != 1 {
 		t.Fatalf("run %d with %v and %v is %d, in\n%s", at, args, through, out.Code, textOf(p))
 	}
@@ -240,7 +240,7 @@ func TestP43ToWriteBackWhatWasThere(t *testing.T) {
 		if at == 4 || !fn.Lent {
 			return
 		}
-		was := impl.HeapRun(p, at, args, through)
+		was := ran(t, p, at, args, through)
 		if was.Code != 0 {
 			return
 		}

@@ -26,11 +26,17 @@ func runText(t *testing.T, p impl.Prog, at int, c runCase) {
 	t.Helper()
 	first, second, _ := strings.Cut(c.given, ">")
 	args, through := valsFrom(first), valsFrom(second)
-	if got := outText(impl.HeapRun(p, at, args, through)); got != c.want {
+	if got := outText(ran(t, p, at, args, through)); got != c.want {
 		t.Errorf("run %d with %q %s, it should be: %s, in\n%s", at, c.given, got, c.want, textOf(p))
 	}
 	if got := outText(runOf(p, at, args, through)); got != c.want {
 		t.Errorf("the tests' own rules: run %d with %q %s, it should be: %s, in\n%s", at, c.given, got, c.want, textOf(p))
+	}
+	if c.want == "bad" {
+		return
+	}
+	if _, late := watchedOf(p, at, args, through); late {
+		t.Errorf("the tests' own rules: run %d with %q uses what has ended, in\n%s", at, c.given, textOf(p))
 	}
 }
 
@@ -225,7 +231,7 @@ func TestRunsThatFail(t *testing.T) {
 			}
 			p := mustRead(t, head+lines)
 			args, back := valsFrom("(1,2) 3 "+edge.fine), valsFrom(strings.TrimPrefix(through, " >"))
-			if got := impl.HeapRun(p, 3, args, back); got.Code != 0 || !sameThing(got, runOf(p, 3, args, back)) {
+			if got := ran(t, p, 3, args, back); got.Code != 0 || !sameThing(got, runOf(p, 3, args, back)) {
 				t.Errorf("with %s it %s:\n%s", edge.fine, outText(got), lines)
 			}
 			runText(t, p, 3, runCase{"(1,2) 3 " + edge.fails + through, "fails"})
@@ -318,7 +324,7 @@ func TestArgumentsThatAreNotAskedFor(t *testing.T) {
 		}
 	}
 	runLast(t, "fn f\nsays i 1\n", runCase{"", "says 1 leaves"}, runCase{"0", "bad"}, runCase{"(0,0)", "bad"}, runCase{"0 0", "bad"})
-	if got := impl.HeapRun(mustRead(t, "fn f\nsays i 1\n"), 0, []impl.Val{}, []impl.Val{}); outText(got) != "says 1 leaves" {
+	if got := ran(t, mustRead(t, "fn f\nsays i 1\n"), 0, []impl.Val{}, []impl.Val{}); outText(got) != "says 1 leaves" {
 		t.Error("the empty list and the nil list are not the same:", got)
 	}
 }
