@@ -11,6 +11,7 @@ import (
 
 // Nothing is written into a program, nor behind the ends of its lists; what lies there is not told.
 func TestCheckedProgramsAreNotChanged(t *testing.T) {
+	t.Parallel()
 	for _, p := range append(fineProgs(t, 100), likelyProgs(200, 10)...) {
 		arg := roomy(p)
 		code, at := faultOf(p)

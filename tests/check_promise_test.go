@@ -37,6 +37,7 @@ func mustLive(t *testing.T, p impl.Prog, at int, n int, want ...string) {
 
 // What is told of programs, fine or not, is what the rules say that are told in another way.
 func TestAnyProgramIsChecked(t *testing.T) {
+	t.Parallel()
 	count := map[int]int{}
 	for _, seldom := range []int{5, 20, 100} {
 		for _, p := range likelyProgs(1200, seldom) {
@@ -61,6 +62,7 @@ func TestAnyProgramIsChecked(t *testing.T) {
 
 // One thing of a program that is fine is changed at a time.
 func TestOneThingChangedIsChecked(t *testing.T) {
+	t.Parallel()
 	count := map[int]int{}
 	for _, p := range fineProgs(t, 12) {
 		p = copyOf(p)

@@ -11,6 +11,7 @@ import (
 
 // Nothing is written into what is given, nor behind the ends of its lists; what lies there is not told. What fails on the way leaves nothing changed either.
 func TestWhatIsRunIsNotChanged(t *testing.T) {
+	t.Parallel()
 	eachRun(t, 150, func(p impl.Prog, at int, args []impl.Val, through []impl.Val) {
 		prog, given, back := roomy(p), roomy(args), roomy(through)
 		mustRun(t, prog, at, given, back, ranOf(p, at, args, through))
@@ -36,6 +37,7 @@ func TestWhatIsRunIsNotChanged(t *testing.T) {
 
 // What comes of a run lies in memory of its own: no two lists of one answer share any, nor do two answers.
 func TestWhatComesOfARunSharesNothing(t *testing.T) {
+	t.Parallel()
 	eachRun(t, 200, func(p impl.Prog, at int, args []impl.Val, through []impl.Val) {
 		prog, given, back := roomy(p), roomy(args), roomy(through)
 		outs := []impl.Out{impl.HeapRun(prog, at, given, back), impl.HeapRun(prog, at, given, back)}

@@ -112,6 +112,7 @@ func TestP37TypesOfWhatComesOfARun(t *testing.T) {
 
 // P38: what is not fine, or not asked for, is not run: with one argument more, or less, or one of another type, it is HeapBad.
 func TestP38NotAskedFor(t *testing.T) {
+	t.Parallel()
 	pair := pairType(numberType, numberType)
 	eachRun(t, 300, func(p impl.Prog, at int, args []impl.Val, through []impl.Val) {
 		for _, more := range []impl.Val{number(0), number(1), counted(pair, 1)} {
@@ -166,6 +167,7 @@ func TestP39ANewNameAtTheBeginning(t *testing.T) {
 
 // P40: what is done if 1 is done; what is done if 0 is not.
 func TestP40WhatIsDoneIf(t *testing.T) {
+	t.Parallel()
 	count := counter{}
 	eachRun(t, 300, func(p impl.Prog, at int, args []impl.Val, _ []impl.Val) {
 		body := p.Fns[at].Body

@@ -11,6 +11,7 @@ import (
 
 // Nothing is written into functions, terms, names or types, nor behind the ends of their lists; what lies there is not told. What is of no type leaves nothing changed either.
 func TestNothingIsChangedByTypes(t *testing.T) {
+	t.Parallel()
 	eachKind(t, 200, func(list []impl.Pure, at int, types []impl.Type) {
 		name := list[at].Name
 		fns, given := roomy(list), roomy(types)
@@ -52,6 +53,7 @@ func TestNothingIsChangedByTypes(t *testing.T) {
 
 // What is told lies in memory of its own: no two lists of one answer share any, nor do two answers.
 func TestTypesShareNothing(t *testing.T) {
+	t.Parallel()
 	eachKind(t, 200, func(list []impl.Pure, at int, types []impl.Type) {
 		fns, given := roomy(list), roomy(types)
 		var answers [][]impl.Type

@@ -10,6 +10,7 @@ import (
 
 // P63: what is of a type, given noughts of the types that it is given, says values of the types that are told, if it does not fail, and is never HeapBad. So it is with any other values of these types.
 func TestP63WhatIsSaidIsOfTheTypesThatAreTold(t *testing.T) {
+	t.Parallel()
 	count := counter{}
 	eachKind(t, 2000, func(list []impl.Pure, at int, types []impl.Type) {
 		says, ok := impl.KindOf(list, list[at].Name, types)
@@ -89,6 +90,7 @@ func TestP64FunctionsBehind(t *testing.T) {
 
 // P65: who is given too much is of no type.
 func TestP65GivenTooMuch(t *testing.T) {
+	t.Parallel()
 	count := kindly{}
 	eachKind(t, 1000, func(list []impl.Pure, at int, types []impl.Type) {
 		name := list[at].Name

@@ -513,6 +513,7 @@ func TestTypesOfAsMuchAsThereMayBe(t *testing.T) {
 
 // What any functions are of is what the rules say that are told in another way, at types that they are thought to take, and at others.
 func TestTypesOfAnyFunctions(t *testing.T) {
+	t.Parallel()
 	count := kindly{}
 	eachKind(t, 3000, func(list []impl.Pure, at int, types []impl.Type) {
 		want := kindWords(list, list[at].Name, types)
@@ -524,6 +525,7 @@ func TestTypesOfAnyFunctions(t *testing.T) {
 
 // At each row of types that are not deep, too.
 func TestTypesOfAnyFunctionsAtAnyTypes(t *testing.T) {
+	t.Parallel()
 	r := rand.New(rand.NewSource(14))
 	count := kindly{}
 	for range 300 {

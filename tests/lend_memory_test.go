@@ -10,6 +10,7 @@ import (
 
 // Nothing is written into what is given, nor behind the ends of its lists; what lies there is not told.
 func TestWhatIsLentIsNotChanged(t *testing.T) {
+	t.Parallel()
 	for _, p := range fineProgs(t, 12) {
 		arg := roomy(p)
 		eachPlace(p, func(at int, n int, place impl.Place) {

@@ -18,6 +18,7 @@ func lendNames(list []impl.Lend) []string {
 
 // What is told of programs that are fine is what the rules say that are told in another way.
 func TestAnyLending(t *testing.T) {
+	t.Parallel()
 	lends, ends := 0, 0
 	for _, p := range fineProgs(t, 500) {
 		eachBehind(p, func(at int, n int) {
@@ -64,6 +65,7 @@ func TestP27PlacesThatMeet(t *testing.T) {
 
 // P28: places that are lent at once, to two names, or to one, do not meet.
 func TestP28PlacesThatAreLentAtOnce(t *testing.T) {
+	t.Parallel()
 	count := 0
 	for _, p := range fineProgs(t, 300) {
 		eachBehind(p, func(at int, n int) {
@@ -86,6 +88,7 @@ func TestP28PlacesThatAreLentAtOnce(t *testing.T) {
 
 // P29: what is lent is live, and so is what it is lent from, which was given ahead of it.
 func TestP29WhatIsLentIsLive(t *testing.T) {
+	t.Parallel()
 	for _, p := range fineProgs(t, 300) {
 		eachBehind(p, func(at int, n int) {
 			live := impl.CheckLive(p, at, n)
@@ -106,6 +109,7 @@ func TestP29WhatIsLentIsLive(t *testing.T) {
 
 // P30: what ends when a place is used was lent; each is told once.
 func TestP30WhatEndsWasLent(t *testing.T) {
+	t.Parallel()
 	count := 0
 	for _, p := range fineProgs(t, 40) {
 		eachBehind(p, func(at int, n int) {
@@ -131,6 +135,7 @@ func TestP30WhatEndsWasLent(t *testing.T) {
 
 // P31: what is lent from what ends ends, too, and first.
 func TestP31WhatIsLentFromWhatEnds(t *testing.T) {
+	t.Parallel()
 	count := 0
 	for _, p := range fineProgs(t, 40) {
 		eachBehind(p, func(at int, n int) {
@@ -167,6 +172,7 @@ func notAhead(lent []impl.Lend, ends []string) (impl.Lend, bool) {
 
 // P32: when a place is lent just what LendEnds tells ends, and all else that was lent stays so; where it cannot be lent nothing ends.
 func TestP32WhenAPlaceIsLent(t *testing.T) {
+	t.Parallel()
 	count := map[bool]int{}
 	for _, p := range fineProgs(t, 40) {
 		eachBehind(p, func(at int, n int) {
@@ -195,6 +201,7 @@ func TestP32WhenAPlaceIsLent(t *testing.T) {
 
 // P33: a new name for a number is lent from nothing, and nothing from it; all else is lent, and ends, as it did.
 func TestP33ANewNameForANumber(t *testing.T) {
+	t.Parallel()
 	for _, p := range fineProgs(t, 40) {
 		eachBehind(p, func(at int, n int) {
 			if !roomFor(p, at, n) {
@@ -211,6 +218,7 @@ func TestP33ANewNameForANumber(t *testing.T) {
 
 // P34: a parameter never ends, whatever is used, and is told as lent by no statement.
 func TestP34ParametersNeverEnd(t *testing.T) {
+	t.Parallel()
 	for _, p := range fineProgs(t, 40) {
 		names := make([][]string, len(p.Fns))
 		for at, fn := range p.Fns {

@@ -11,6 +11,7 @@ import (
 
 // Nothing is written into what is given, nor behind the ends of its lists, whatever comes of the run.
 func TestWhatIsWatchedIsNotChanged(t *testing.T) {
+	t.Parallel()
 	eachRun(t, 100, func(p impl.Prog, at int, args []impl.Val, through []impl.Val) {
 		prog, given, back := roomy(p), roomy(args), roomy(through)
 		mustWatch(t, prog, at, given, back, ranOf(p, at, args, through))
@@ -36,6 +37,7 @@ func TestWhatIsWatchedIsNotChanged(t *testing.T) {
 
 // What comes of a run that is watched lies in memory of its own: no two lists of it share any, nor do two answers, nor one and what HeapRun tells.
 func TestWhatComesOfAWatchedRunSharesNothing(t *testing.T) {
+	t.Parallel()
 	eachRun(t, 150, func(p impl.Prog, at int, args []impl.Val, through []impl.Val) {
 		prog, given, back := roomy(p), roomy(args), roomy(through)
 		first, _ := impl.LoanRun(prog, at, given, back)

@@ -49,6 +49,7 @@ func lentAndUsed(p impl.Prog, at int, args []impl.Val) bool {
 
 // P59: to watch changes nothing of what comes of a run: fine, failing or bad.
 func TestP59ToWatchChangesNothing(t *testing.T) {
+	t.Parallel()
 	count := counter{}
 	bad := 0
 	eachRun(t, 500, func(p impl.Prog, at int, args []impl.Val, through []impl.Val) {
@@ -106,6 +107,7 @@ func called(p impl.Prog, at int) impl.Prog {
 
 // P60: nor is anything used that has ended by way of a function that only calls another one, nor of one that only calls that.
 func TestP60ByWayOfFunctionsThatOnlyCall(t *testing.T) {
+	t.Parallel()
 	count := counter{}
 	eachRun(t, 400, func(p impl.Prog, at int, args []impl.Val, through []impl.Val) {
 		more := called(p, at)
@@ -120,6 +122,7 @@ func TestP60ByWayOfFunctionsThatOnlyCall(t *testing.T) {
 
 // By such a function a place is given out; the caller writes through it, by a name that is lent from it, and then all that was lent to it.
 func TestP60PlacesThatAreGivenOut(t *testing.T) {
+	t.Parallel()
 	count := counter{}
 	eachRun(t, 600, func(p impl.Prog, at int, args []impl.Val, through []impl.Val) {
 		if at == 4 || !p.Fns[at].Lent {
@@ -141,6 +144,7 @@ func TestP60PlacesThatAreGivenOut(t *testing.T) {
 
 // P61: a function cut anywhere uses nothing that has ended, also if one more name is lent there from each that is live, and both are used.
 func TestP61CutAnywhere(t *testing.T) {
+	t.Parallel()
 	r := rand.New(rand.NewSource(61))
 	count := counter{}
 	for _, p := range fineProgs(t, 250) {

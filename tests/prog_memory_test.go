@@ -133,6 +133,7 @@ func TestWhatIsReadSharesNothing(t *testing.T) {
 
 // Of a program's parts nothing is changed, nor behind their ends.
 func TestWhatIsWrittenIsNotChanged(t *testing.T) {
+	t.Parallel()
 	for _, p := range sampleProgs() {
 		arg := roomy(p)
 		text := impl.ProgWrite(arg)

@@ -26,6 +26,7 @@ func readRight(t *testing.T, text string) {
 
 // A text that is cut anywhere is none, but for where a function ends.
 func TestTextsThatAreCut(t *testing.T) {
+	t.Parallel()
 	for _, p := range sampleProgs()[:70] {
 		text := impl.ProgWrite(p)
 		ends := []int{0}
@@ -81,6 +82,7 @@ func turns(list []string) [][]string {
 }
 
 func TestTextsWithOtherLines(t *testing.T) {
+	t.Parallel()
 	for _, p := range append(sampleProgs()[:25], anyProgs(40)...) {
 		lines := strings.SplitAfter(impl.ProgWrite(p), "\n")
 		if len(lines) > 40 {

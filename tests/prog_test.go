@@ -196,6 +196,7 @@ func longProg(size int) impl.Prog {
 }
 
 func TestLimitOfText(t *testing.T) {
+	t.Parallel()
 	for _, size := range []int{5000, 5999, 6000} {
 		p := longProg(size)
 		if len(textOf(p)) != size {

@@ -12,6 +12,7 @@ import (
 
 // Nothing is written into functions or values, nor behind the ends of their lists; what lies there is not told. What fails, or is bad, leaves nothing changed either.
 func TestFunctionsAreNotChanged(t *testing.T) {
+	t.Parallel()
 	eachPure(t, 300, func(list []impl.Pure, at int, args []impl.Val) {
 		fns, given := roomy(list), roomy(args)
 		mustSay(t, fns, list[at].Name, given, pureWords(list, list[at].Name, args))
@@ -57,6 +58,7 @@ func TestFunctionsAreNotChanged(t *testing.T) {
 
 // What is said lies in memory of its own: no two lists of one answer share any, nor do two answers; nor does a text.
 func TestWhatIsSaidSharesNothing(t *testing.T) {
+	t.Parallel()
 	eachPure(t, 300, func(list []impl.Pure, at int, args []impl.Val) {
 		fns, given := roomy(list), roomy(args)
 		var answers [][]impl.Val

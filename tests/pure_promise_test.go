@@ -76,6 +76,7 @@ func TestP52AFunctionMoreBehind(t *testing.T) {
 
 // P53: what is not given as asked for is HeapBad.
 func TestP53NotAsAskedFor(t *testing.T) {
+	t.Parallel()
 	odd := oddVals()
 	eachPure(t, 500, func(list []impl.Pure, at int, args []impl.Val) {
 		name := list[at].Name
@@ -101,6 +102,7 @@ func TestP53NotAsAskedFor(t *testing.T) {
 
 // P54: functions have a text just if they are ok; it begins with the first one's name.
 func TestP54TextsOfFunctions(t *testing.T) {
+	t.Parallel()
 	r := rand.New(rand.NewSource(54))
 	count := map[bool]int{}
 	for range 60 {
@@ -148,6 +150,7 @@ func wrapPure(name string, fn impl.Pure) impl.Pure {
 
 // P55: to be called is to be run: a function that only calls another one says the same.
 func TestP55ToBeCalledIsToBeRun(t *testing.T) {
+	t.Parallel()
 	count := counter{}
 	eachPure(t, 1000, func(list []impl.Pure, at int, args []impl.Val) {
 		want := count.purely(t, list, list[at].Name, args)
@@ -164,6 +167,7 @@ func TestP55ToBeCalledIsToBeRun(t *testing.T) {
 
 // P56: to be run twice says twice the same: by two calls of PureRun, and by two calls in one function.
 func TestP56ToBeRunTwice(t *testing.T) {
+	t.Parallel()
 	count := counter{}
 	eachPure(t, 1000, func(list []impl.Pure, at int, args []impl.Val) {
 		fn := list[at]
@@ -186,6 +190,7 @@ func TestP56ToBeRunTwice(t *testing.T) {
 
 // P57: what the last function says, turned about, is said turned about.
 func TestP57TurnedAbout(t *testing.T) {
+	t.Parallel()
 	count := counter{}
 	eachPure(t, 2000, func(list []impl.Pure, at int, args []impl.Val) {
 		if at < len(list)-1 {

@@ -270,6 +270,7 @@ func TestWrongFunctionsWithWrongValues(t *testing.T) {
 
 // What comes of any run is what the rules say that are told in another way.
 func TestAnyPureRun(t *testing.T) {
+	t.Parallel()
 	count := map[string]int{}
 	eachPure(t, 3000, func(list []impl.Pure, at int, args []impl.Val) {
 		want := pureWords(list, list[at].Name, args)
@@ -298,6 +299,7 @@ func TestAnyPureText(t *testing.T) {
 
 // With values of other types than were thought of when they were made most runs fail, each alike.
 func TestAnyRunOfOtherTypes(t *testing.T) {
+	t.Parallel()
 	r := rand.New(rand.NewSource(13))
 	types := typesUpTo(4)
 	count := map[string]int{}

@@ -482,6 +482,7 @@ func TestLimitOfWhatIsSaid(t *testing.T) {
 
 // A body's own bindings count, not those in it.
 func TestLimitOfBindings(t *testing.T) {
+	t.Parallel()
 	for _, n := range []int{399, 400, 401, 402, 1000} {
 		test := pureOk
 		if n > 400 {
@@ -530,6 +531,7 @@ func TestDeepBodies(t *testing.T) {
 
 // One thing is changed at a time, of functions that are ok.
 func TestOneThingChangedOfFunctions(t *testing.T) {
+	t.Parallel()
 	count := map[bool]int{}
 	for _, text := range pureSamples {
 		list := copyOf(puresFrom(text))
