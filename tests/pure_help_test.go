@@ -530,6 +530,7 @@ func mustSay(t *testing.T, list []impl.Pure, name string, args []impl.Val, want 
 // pureMaker makes functions that are ok by a source of numbers. It knows of which type each name is, so that most runs do not fail.
 type pureMaker struct {
 	r     *rand.Rand
+	moves int // how many bindings more a body may have, and then many that only give a name, or a number, one
 	list  []impl.Pure
 	takes [][]impl.Type
 	says  [][]impl.Type
@@ -586,7 +587,7 @@ func (m *pureMaker) body(outside typed, says []impl.Type, deep int) impl.Body {
 		scope[name] = kind
 	}
 	var body impl.Body
-	for range m.r.Intn(5 - deep/2) {
+	for range m.r.Intn(5 - deep/2 + m.moves) {
 		body.Binds = append(body.Binds, m.bind(scope, deep))
 	}
 	body.Says = m.terms(scope, says)
@@ -597,6 +598,8 @@ func (m *pureMaker) bind(scope typed, deep int) impl.Bind {
 	kinds := m.someTypes(m.r.Intn(4))
 	var b impl.Bind
 	switch way := m.r.Intn(5); {
+	case m.moves > 0 && m.r.Intn(3) > 0:
+		b, kinds = m.move(scope)
 	case way == 0 && len(m.list) > 0:
 		at := m.r.Intn(len(m.list))
 		kinds = m.says[at]
@@ -612,6 +615,16 @@ func (m *pureMaker) bind(scope typed, deep int) impl.Bind {
 		scope[name] = kinds[at]
 	}
 	return b
+}
+
+// move is a binding of a name, or, now and then, or if there is none, of a number.
+func (m *pureMaker) move(scope typed) (impl.Bind, []impl.Type) {
+	for _, name := range m.someNames(7) {
+		if kind, ok := scope[name]; ok && m.r.Intn(6) > 0 {
+			return impl.Bind{Kind: 1, Terms: terms(nameTerm(name))}, []impl.Type{kind}
+		}
+	}
+	return impl.Bind{Kind: 1, Terms: terms(numTerm(anyNumber(m.r)))}, []impl.Type{numberType}
 }
 
 func (m *pureMaker) terms(scope typed, kinds []impl.Type) []impl.Term {
