@@ -531,6 +531,7 @@ func mustSay(t *testing.T, list []impl.Pure, name string, args []impl.Val, want 
 type pureMaker struct {
 	r     *rand.Rand
 	moves int // how many bindings more a body may have, and then many that only give a name, or a number, one
+	folds int // of so many terms one is such that it may be made simpler
 	list  []impl.Pure
 	takes [][]impl.Type
 	says  [][]impl.Type
@@ -639,6 +640,9 @@ func (m *pureMaker) terms(scope typed, kinds []impl.Type) []impl.Term {
 func (m *pureMaker) term(scope typed, kind impl.Type, deep int) impl.Term {
 	if m.r.Intn(80) == 0 {
 		kind = m.someType()
+	}
+	if m.folds > 0 && deep > 1 && m.r.Intn(m.folds) == 0 {
+		return m.folded(scope, kind, deep-1)
 	}
 	found := m.parts(scope, kind)
 	if len(found) > 0 && (deep <= 1 || m.r.Intn(3) > 0) {
